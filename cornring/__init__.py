@@ -1,0 +1,1 @@
+"""Cornring: a market's book of bids and offers."""
