@@ -25,8 +25,8 @@ WORDS_LEFT_OUT = (
 class Package(unittest.TestCase):
     def test_the_modules_are_there(self):
         names = [path.name for path in FILES]
-        for name in ("__init__.py", "errors.py", "ranks.py", "meeting.py"):
-            self.assertIn(name, names)
+        for name in ("__init__", "errors", "ranks", "meeting", "purses", "book", "market", "day"):
+            self.assertIn(name + ".py", names)
 
     def test_nothing_but_plain_files_lies_in_it(self):
         for path in PACKAGE.rglob("*"):
@@ -52,6 +52,24 @@ class Package(unittest.TestCase):
             for node in ast.walk(ast.parse(text)):
                 self.assertNotIsInstance(node, ast.Div)
                 self.assertFalse(isinstance(node, ast.Constant) and isinstance(node.value, float))
+
+    def test_no_name_of_pythons_own_is_given_another_meaning(self):
+        for text in TEXTS:
+            for node in ast.walk(ast.parse(text)):
+                if isinstance(node, ast.Name) and isinstance(node.ctx, ast.Store):
+                    self.assertNotIn(node.id, dir(builtins))
+                if isinstance(node, ast.arg):
+                    self.assertNotIn(node.arg, dir(builtins))
+
+    def test_no_name_is_both_a_method_and_a_value(self):
+        methods, values = set(), set()
+        for text in TEXTS:
+            for node in ast.walk(ast.parse(text)):
+                if isinstance(node, ast.ClassDef):
+                    methods |= {part.name for part in node.body if isinstance(part, ast.FunctionDef)}
+                if isinstance(node, ast.Attribute) and isinstance(node.ctx, ast.Store):
+                    values.add(node.attr)
+        self.assertEqual(methods & values, set())
 
     def test_signs_and_words(self):
         for text in TEXTS:
